@@ -1,0 +1,1 @@
+"""Coarseviews: programs seen through sets that are allowed."""
