@@ -2,6 +2,7 @@
 
 Common states and contained sets then take one operation. A family is a tuple
 of different masks, in order, that holds the full set and all common states.
+Moves are a tuple with one mask for each state: the states to which it is sent.
 """
 
 
@@ -56,6 +57,11 @@ def in_order(masks):
     return tuple(sorted(masks, key=rank))
 
 
+def every_mask(many):
+    """The masks of all sets of states below many, in order."""
+    return in_order(list(range(1 << many)))
+
+
 def grown(family, more):
     """The family that has more masks, too, and all that follow from them."""
     found = {old: True for old in family}
@@ -91,3 +97,21 @@ def is_edge(family, mask):
         if other != mask and contains(other, mask):
             common = common & other
     return mask in family and common != mask
+
+
+def image(moves, mask):
+    """All states to which the states of a mask are sent."""
+    found = 0
+    for state, sent in enumerate(moves):
+        if mask >> state & 1:
+            found = found | sent
+    return found
+
+
+def inverse(moves, mask):
+    """All states that are sent into a mask only."""
+    found = 0
+    for state, sent in enumerate(moves):
+        if contains(mask, sent):
+            found = found | 1 << state
+    return found

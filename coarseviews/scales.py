@@ -143,13 +143,13 @@ class Scale:
 
     def meet(self, other):
         """The scale of the sets that both scales allow."""
-        self._check_other(other)
+        check_scale(other, self._many)
         sets = [states for states in self.allowed if other.allows(states)]
         return Scale(self._many, *sets)
 
     def join(self, other):
         """The scale of the sets that one or the other scale allows, and of all that follow."""
-        self._check_other(other)
+        check_scale(other, self._many)
         sets = self.allowed + other.allowed
         return Scale(self._many, *sets)
 
@@ -162,12 +162,6 @@ class Scale:
         if not Scale.is_set(self._many, states):
             raise NoSet("not an ascending tuple of different states")
         return mask_of(states)
-
-    def _check_other(self, other):
-        if not isinstance(other, Scale):
-            raise NoScale("not a scale")
-        if other._many != self._many:
-            raise OtherStates("the scales have different numbers of states")
 
     def _perform(self, deed):
         if not isinstance(deed, tuple) or len(deed) != 2:
@@ -187,6 +181,26 @@ def check_many(many):
     """Raise NoMany for all but a number of states."""
     if not is_integer(many) or not 1 <= many <= Scale.MOST:
         raise NoMany("the number of states is not an integer from 1 to 7")
+
+
+def check_scale(thing, many):
+    """Raise NoScale for all but a scale, and OtherStates for one of another number of states."""
+    if not isinstance(thing, Scale):
+        raise NoScale("not a scale")
+    if thing.many != many:
+        raise OtherStates("a scale has another number of states")
+
+
+def family_of(scale):
+    """The masks of all sets that a scale allows."""
+    return scale._family
+
+
+def scale_of(many, family):
+    """A new scale that allows the sets of a family."""
+    scale = Scale(many)
+    scale._family = family
+    return scale
 
 
 def is_labels(thing):
